@@ -164,7 +164,7 @@ func wantIssue(l []impl.Doc, account string, month int64, bill []impl.Line) impl
 		return impl.LedgerOut{Code: impl.ErrOver}
 	case len(lines) == 0 && count > 0:
 		return impl.LedgerOut{Code: impl.ErrThere}
-	case len(l) == impl.MaxDocs || len(lines) > impl.MaxMeters:
+	case len(l) == impl.MaxDocs:
 		return impl.LedgerOut{Code: impl.ErrFull}
 	}
 	d := impl.Doc{Account: account, Month: month, Seq: count, Lines: lines}
@@ -195,22 +195,26 @@ func checkIssue(t *testing.T, what string, l []impl.Doc, account string, month i
 	return got
 }
 
-// checkIssued is promise 16 of what was issued behind a right ledger.
+// checkIssued is promise 16 of what was issued behind a right ledger. A Doc of more lines than a right one has is issued, too, but what it ends is no right ledger, which has no net.
 func checkIssued(t *testing.T, what string, l []impl.Doc, got impl.LedgerOut, bill []impl.Line) {
 	t.Helper()
 	account, month := got.Doc.Account, got.Doc.Month
 	ahead := impl.NetOf(l, account, month)
-	is(t, what+": the ledger is right", impl.LedgerRight(got.Docs), true)
-	is(t, what+": the net is the bill", linesOrNone(impl.NetOf(got.Docs, account, month)), linesOrNone(bill))
 	is(t, what+": none ahead is another one", docsOrNone(got.Docs[:len(l)]), docsOrNone(l))
 	is(t, what+": one more", len(got.Docs), len(l)+1)
 	is(t, what+": it is the last one", got.Docs[len(l)], got.Doc)
-	is(t, what+": again nothing is new", issue(t, what, got.Docs, account, month, bill), impl.LedgerOut{Code: impl.ErrThere})
 	together := map[string]int64{}
 	for _, line := range slices.Concat(ahead, got.Doc.Lines) {
 		together[line.Meter] += line.Micro
 	}
 	is(t, what+": what was and what is new together are the bill", linesByMeter(together), linesOrNone(bill))
+	right := len(got.Doc.Lines) <= impl.MaxMeters
+	is(t, what+": whether the ledger is right", impl.LedgerRight(got.Docs), right)
+	if !right {
+		return
+	}
+	is(t, what+": the net is the bill", linesOrNone(impl.NetOf(got.Docs, account, month)), linesOrNone(bill))
+	is(t, what+": again nothing is new", issue(t, what, got.Docs, account, month, bill), impl.LedgerOut{Code: impl.ErrThere})
 	for _, d := range l {
 		if d.Account != account || d.Month != month {
 			is(t, what+": the net of others", linesOrNone(impl.NetOf(got.Docs, d.Account, d.Month)), linesOrNone(impl.NetOf(l, d.Account, d.Month)))
@@ -481,25 +485,49 @@ func TestLedgerRowsApart(t *testing.T) {
 	}
 }
 
-// TestLedgerNets asks for rows that come to just Most, and beyond: no beginning of a row may run beyond it, either.
+// TestLedgerNets asks for rows that come to just Most, and beyond: all of a row together counts, not its beginning.
 func TestLedgerNets(t *testing.T) {
 	half := most / 2
 	right := [][]int64{{most}, {most - 1, 1}, {half, half}, {most, -most, most}, {most, -1, 1}, {1, most - 1, -most, -most, 1}, slices.Repeat([]int64{most / 30}, 30)}
-	wrong := [][]int64{{most, 1}, {most, most}, {1, most}, {half, half, 1}, {most, -1, 2}, {most, -most, most, 1}, slices.Repeat([]int64{most/30 + 1}, 30)}
-	back := [][]int64{{most, 1, -1}, {most, most, -most}, {1, most, -5}, {most, 1, -most}, {half, half, 1, -1}, {most, most, -most, -most}}
+	back := [][]int64{{most, 1, -1}, {most, most, -most}, {1, most, -1}, {1, most, -5}, {most, 1, -most}, {half, half, 1, -1}, {most, most, -most, -most}, {most, most, most, -most, -most, -most, -most}}
+	wrong := [][]int64{{most, 1}, {most, most}, {1, most}, {half, half, 1}, {most, -1, 2}, {most, 2, -1}, {most, -most, most, 1}, {most, most, -most, 1}, slices.Repeat([]int64{most/30 + 1}, 30), slices.Repeat([]int64{most}, 30)}
 	for _, sign := range []int64{1, -1} {
-		for i, micros := range slices.Concat(right, wrong, back) {
+		for i, micros := range slices.Concat(right, back, wrong) {
 			signed := slices.Clone(micros)
 			for k := range signed {
 				signed[k] *= sign
 			}
-			checkLedger(t, fmt.Sprint("nets of ", signed), rowOf("ann", 600, "cpu", signed...), i < len(right))
+			checkLedger(t, fmt.Sprint("nets of ", signed), rowOf("ann", 600, "cpu", signed...), i < len(right)+len(back))
 		}
 	}
 	full := slices.Repeat([]int64{most, -most}, 15)
 	checkRightLedger(t, "up and down", rowOf("ann", 600, "cpu", full...))
+	slices.Sort(full)
+	checkRightLedger(t, "down, and then up", rowOf("ann", 600, "cpu", full...))
+	slices.Reverse(full)
+	checkRightLedger(t, "up, and then down", rowOf("ann", 600, "cpu", full...))
 	full[29] = 1
-	checkWrongLedger(t, "up and down, and up again", rowOf("ann", 600, "cpu", full...))
+	checkWrongLedger(t, "up, and not all down", rowOf("ann", 600, "cpu", full...))
+}
+
+// TestLedgerBroughtBack asks all calls of a ledger that runs beyond Most at first, by hand; what is between in other rows or meters changes nothing.
+func TestLedgerBroughtBack(t *testing.T) {
+	for _, sign := range []int64{1, -1} {
+		l := rowOf("ann", 600, "cpu", sign*most, sign, -sign)
+		net := []impl.Line{{Meter: "cpu", Micro: sign * most}}
+		is(t, "right", impl.LedgerRight(l), true)
+		is(t, "its net", impl.NetOf(l, "ann", 600), net)
+		checkIssueCode(t, "its net is billed", l, "ann", 600, net, impl.ErrThere)
+		less := impl.Doc{Account: "ann", Month: 600, Seq: 3, Lines: []impl.Line{{Meter: "cpu", Micro: -sign * most}}}
+		is(t, "no bill", checkIssue(t, "no bill", l, "ann", 600, nil), impl.LedgerOut{Docs: append(keptDocs(l), less), Doc: less})
+		checkIssueCode(t, "below 0", l, "ann", 600, []impl.Line{{Meter: "cpu", Micro: -sign}}, impl.ErrOver)
+		is(t, "back from its bytes", impl.LedgerRead(impl.LedgerBytes(l)), impl.LedgerOut{Docs: l})
+		top, one, less1 := fmt.Sprint(sign*most), fmt.Sprint(sign), fmt.Sprint(-sign)
+		checkRightLedger(t, "others between", ledgerAs("ann 600 0 cpu="+top, "bob 600 0 cpu="+one, "ann 600 1 cpu="+one+" disk="+top, "ann 601 0 cpu="+top, "ann 600 2 cpu="+less1))
+		checkWrongLedger(t, "brought back by another account", ledgerAs("ann 600 0 cpu="+top, "ann 600 1 cpu="+one, "bob 600 0 cpu="+less1))
+		checkWrongLedger(t, "brought back in another month", ledgerAs("ann 600 0 cpu="+top, "ann 600 1 cpu="+one, "ann 601 0 cpu="+less1))
+		checkWrongLedger(t, "brought back of another meter", ledgerAs("ann 600 0 cpu="+top, "ann 600 1 cpu="+one, "ann 600 2 disk="+less1))
+	}
 }
 
 // TestLedgerNetsApart lays what is beyond Most into two accounts, months or meters: each has its own net.
@@ -659,7 +687,7 @@ func TestIssueForm(t *testing.T) {
 			checkIssueCode(t, "none, and the bill "+told(wrong), nil, "ann", 600, wrong, impl.ErrForm)
 		}
 	}
-	for _, wrong := range [][]impl.Doc{ledgerAs("ann 600 1 cpu=1"), ledgerAs("ann 600 0 cpu=0"), ledgerAs("bob 600 0", "bob 600 0"), rowOf("bob", 1, "cpu", most, 1), rowOf("ann", 600, "cpu", most, 1, -1), someDocs(31), someDocs(impl.MaxList)} {
+	for _, wrong := range [][]impl.Doc{ledgerAs("ann 600 1 cpu=1"), ledgerAs("ann 600 0 cpu=0"), ledgerAs("bob 600 0", "bob 600 0"), rowOf("bob", 1, "cpu", most, 1), rowOf("ann", 600, "cpu", most, 1, 1, -1), someDocs(31), someDocs(impl.MaxList)} {
 		checkIssueCode(t, "the ledger "+told(wrong), wrong, "ann", 600, bill, impl.ErrForm)
 		checkIssueCode(t, "no bill, and the ledger "+told(wrong), wrong, "ann", 600, nil, impl.ErrForm)
 	}
@@ -745,16 +773,31 @@ func TestIssueUpToFull(t *testing.T) {
 	checkRightLedger(t, "all of them", l)
 }
 
-// TestIssueOfManyMeters asks for what is new of more meters than a document may have: none that is not right is issued.
+// TestIssueOfManyMeters asks for what is new of more meters than a right document has: all of it is issued, while there is room for a document.
 func TestIssueOfManyMeters(t *testing.T) {
 	l := ledgerAs("ann 600 0 a=1 b=2 c=3 d=4 e=5 f=6")
-	checkIssueCode(t, "twelve meters", l, "ann", 600, linesAs("g=1 h=2 i=3 j=4 k=5 l=6"), impl.ErrFull)
-	checkIssueCode(t, "seven meters", l, "ann", 600, linesAs("g=1"), impl.ErrFull)
 	is(t, "six meters", checkIssue(t, "six meters", l, "ann", 600, linesAs("a=1 g=1")).Doc, docAs("ann 600 1 b=-2 c=-3 d=-4 e=-5 f=-6 g=1"))
 	is(t, "six meters, none left", checkIssue(t, "six meters, none left", l, "ann", 600, nil).Doc, docAs("ann 600 1 a=-1 b=-2 c=-3 d=-4 e=-5 f=-6"))
+	is(t, "seven meters", checkIssue(t, "seven meters", l, "ann", 600, linesAs("g=1")).Doc, docAs("ann 600 1 a=-1 b=-2 c=-3 d=-4 e=-5 f=-6 g=1"))
+	twelve := docAs("ann 600 1 a=-1 b=-2 c=-3 d=-4 e=-5 f=-6 g=1 h=2 i=3 j=4 k=5 l=6")
+	is(t, "twelve meters", checkIssue(t, "twelve meters", l, "ann", 600, linesAs("g=1 h=2 i=3 j=4 k=5 l=6")), impl.LedgerOut{Docs: append(keptDocs(l), twelve), Doc: twelve})
 	l = append(l, docAs("ann 600 1 g=7 h=8"))
 	is(t, "a net of eight meters", checkIssue(t, "a net of eight meters", l, "ann", 600, linesAs("a=1 b=2 c=3 d=4 e=5 h=9")).Doc, docAs("ann 600 2 f=-6 g=-7 h=1"))
-	checkIssueCode(t, "a net of eight meters, and no bill", l, "ann", 600, nil, impl.ErrFull)
+	is(t, "a net of eight meters, and no bill", checkIssue(t, "a net of eight meters, and no bill", l, "ann", 600, nil).Doc, docAs("ann 600 2 a=-1 b=-2 c=-3 d=-4 e=-5 f=-6 g=-7 h=-8"))
+}
+
+// TestIssueOfManyMetersInOrder: the codes that are named come first there, too.
+func TestIssueOfManyMetersInOrder(t *testing.T) {
+	l := append(ledgerAs("ann 600 0 a=1 b=2 c=3 d=4 e=5 f=1000000000000000"), someDocs(28)...)
+	bill := linesAs("a=2 b=3 c=4 d=5 g=6 h=7")
+	is(t, "the last one that has room", checkIssue(t, "the last one that has room", l, "ann", 600, bill).Doc, docAs("ann 600 1 a=1 b=1 c=1 d=1 e=-5 f=-1000000000000000 g=6 h=7"))
+	checkIssueCode(t, "over", l, "ann", 600, linesAs("f=-1 g=6 h=7"), impl.ErrOver)
+	full := append(l, docAs("zoe 9 0"))
+	checkIssueCode(t, "full", full, "ann", 600, bill, impl.ErrFull)
+	checkIssueCode(t, "over, ahead of full", full, "ann", 600, linesAs("f=-1 g=6 h=7"), impl.ErrOver)
+	wide := impl.Issue(l, "ann", 600, bill).Docs
+	checkWrongLedger(t, "what ends in a Doc of eight lines", wide)
+	checkIssueCode(t, "behind a Doc of eight lines", wide, "ann", 600, bill, impl.ErrForm)
 }
 
 // TestIssuedBills is promise 16 of drawn bills, of several accounts and months in turns.
@@ -772,7 +815,7 @@ func TestIssuedBills(t *testing.T) {
 			}
 			got := checkIssue(t, fmt.Sprint("bill ", k, " of ", i), l, account, month, bill)
 			codes[got.Code]++
-			if got.Code == impl.OK {
+			if got.Code == impl.OK && len(got.Doc.Lines) <= impl.MaxMeters {
 				l = got.Docs
 			}
 		}
@@ -832,7 +875,7 @@ func TestLedgersComeBack(t *testing.T) {
 		for range draws.Intn(impl.MaxDocs + 1) {
 			names := anyNames(draws, 1)
 			got := impl.Issue(l, names[0][:1], draws.Int63n(3)*1380, anyLines(draws))
-			if got.Code == impl.OK {
+			if got.Code == impl.OK && len(got.Doc.Lines) <= impl.MaxMeters {
 				l = got.Docs
 			}
 		}
